@@ -72,13 +72,13 @@ func upTo(count int64) []int64 {
 	return list
 }
 
-// neighboursThen counts by another way than taking away: two places are neighbours then if a way of arcs, whatever their direction, leads from one to the other over places that are gone alone.
-func neighboursThen(g impl.Graph, gone []int64, place int64) int64 {
+// neighboursThen tells by another way than taking away: two places are neighbours then if a way of arcs, whatever their direction, leads from one to the other over places that are gone alone.
+func neighboursThen(g impl.Graph, gone []int64, place int64) []int64 {
 	seen := []int64{place}
-	count := int64(0)
+	var neighbours []int64
 	for i := 0; i < len(seen); i++ {
 		if i > 0 && !slices.Contains(gone, seen[i]) {
-			count++
+			neighbours = append(neighbours, seen[i])
 			continue
 		}
 		for _, x := range g.Arcs {
@@ -89,7 +89,7 @@ func neighboursThen(g impl.Graph, gone []int64, place int64) int64 {
 			}
 		}
 	}
-	return count
+	return neighbours
 }
 
 func orderByWays(g impl.Graph) []int64 {
@@ -100,7 +100,7 @@ func orderByWays(g impl.Graph) []int64 {
 			if slices.Contains(gone, place) {
 				continue
 			}
-			if count := neighboursThen(g, gone, place); count < fewest {
+			if count := int64(len(neighboursThen(g, gone, place))); count < fewest {
 				best, fewest = place, count
 			}
 		}
