@@ -1231,10 +1231,14 @@ func TestMessagesToAllSmallNodes(t *testing.T) {
 
 // someNode is a right one, of any Role.
 func someNode(r *numbersFrom) impl.Node {
+	peers := 1 + r.below(impl.MaxPeers)
+	return someNodeOf(r, r.below(peers), peers)
+}
+
+func someNodeOf(r *numbersFrom, id, peers int64) impl.Node {
 	log := someLog(r, r.below(12))
 	end := int64(len(log))
-	peers := 1 + r.below(impl.MaxPeers)
-	n := impl.Node{Id: r.below(peers), Peers: peers, Term: impl.LastTerm(log) + r.below(3), Log: log, Role: 1 + r.below(3), Commit: r.below(end + 1)}
+	n := impl.Node{Id: id, Peers: peers, Term: impl.LastTerm(log) + r.below(3), Log: log, Role: 1 + r.below(3), Commit: r.below(end + 1)}
 	n.Vote = r.below(peers+1) - 1
 	for server := range peers {
 		if n.Role != impl.RlFollow && r.below(2) == 0 {
